@@ -1,0 +1,1 @@
+"""Doors that ask for credentials without seeing which ones."""
