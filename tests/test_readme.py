@@ -11,7 +11,7 @@ class ReadmeTest(unittest.TestCase):
 
     def test_examples(self):
         result = doctest.testfile(str(README), module_relative=False)
-        self.assertGreater(result.attempted, 40)
+        self.assertGreater(result.attempted, 80)
         self.assertEqual(result.failed, 0)
 
 
