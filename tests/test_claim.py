@@ -4,6 +4,7 @@ import inspect
 import itertools
 import unittest
 
+from tests.helpers import changed, longer_and_shorter
 from vouchdoor import claim as module
 from vouchdoor.claim import (Claim, answer, extract, first_move, fits, satisfied, simulate, tape_of,
                              tape_of_view, tape_size)
@@ -74,13 +75,6 @@ def all_tapes(group, claim):
     return [tape_of(claim, numbers) for numbers in itertools.product(range(group.q), repeat=tape_size(claim))]
 
 
-def changed(tree, change):
-    """All tuples like a nested one, with one number replaced by what change makes of it."""
-    if not isinstance(tree, tuple):
-        return [change(tree)]
-    return [tree[:at] + (part,) + tree[at + 1:] for at, inner in enumerate(tree) for part in changed(inner, change)]
-
-
 def numbers_of(tree):
     """All numbers of a nested tuple, in order."""
     if not isinstance(tree, tuple):
@@ -93,17 +87,6 @@ def only_tuples(tree):
     if isinstance(tree, tuple):
         return all(only_tuples(inner) for inner in tree)
     return type(tree) is int
-
-
-def longer_and_shorter(tree):
-    """All tuples like a nested one, with one item too many or too few somewhere."""
-    if not isinstance(tree, tuple):
-        return []
-    found = [tree + (item,) for item in [0, (), ((), ()), (0, ((), ()))] + list(tree[-1:])]
-    found += [tree[1:], tree[:-1]] if tree else []
-    for at, inner in enumerate(tree):
-        found += [tree[:at] + (part,) + tree[at + 1:] for part in longer_and_shorter(inner)]
-    return found
 
 
 def views(group, claim, witnesses, challenges):

@@ -16,9 +16,13 @@ TOWN_ROWS = [
     ("person", 3, 3, [1, 1]), ("club", 2, 3, [1]), ("member", 3, 2, [])]
 CITY_ROWS = [("person", 2, 2, [1, 1]), ("club", 1, 2, [1]), ("person", 0, 3, [0, 0]), ("club", 4, 3, [4])]
 
+# The small group has no bases for these.
+PASS_ROWS = [("pass", 1, 2, [1, 4, 2]), ("pass", 2, 3, [1, 3, 0]), ("pass", 6, 3, [0, 2, 2]), ("pass", 0, 2, [1, 0, 1])]
+
 
 def issuers_of(group):
-    return [issuer_with("town", TOWN_ROWS, group), issuer_with("city", CITY_ROWS, group)]
+    city_rows = CITY_ROWS + PASS_ROWS if group == GROUP else CITY_ROWS
+    return [issuer_with("town", TOWN_ROWS, group), issuer_with("city", city_rows, group)]
 
 
 ISSUERS = {group.p: issuers_of(group) for group in [GROUP, SMALL]}
@@ -52,10 +56,25 @@ CASES = [
         (3, [THREE["even"], Pick(3, 4, (4,)), Pick(0, 2, ())])]),
 ]
 
+PASS = "card me pass from city"
+TWO_PASS, TWO_OTHER = Pick(0, 1, (1, 4, 2)), Pick(3, 0, (1, 0, 1))
+THREE_PASS, THREE_OTHER = Pick(1, 2, (1, 3, 0)), Pick(2, 6, (0, 2, 2))
+PASS_CASES = [
+    (PASS + " least me price 3 among me kind 0 2 least me zone 1", [(2, [TWO_PASS]), (3, [THREE_PASS])]),
+    (PASS + " tell me zone least me price 3 among me kind 0 2", [(2, [TWO_PASS]), (3, [THREE_PASS])]),
+    (PASS + " among me price 0 2 least me kind 1", [(2, [TWO_OTHER]), (3, [THREE_OTHER])]),
+    (PASS + " same me kind me zone least me kind 1 among me price 0 1 2", [(2, [TWO_OTHER])]),
+    (PASS + " same me kind me price least me kind 1 equal me zone 0", [(3, [THREE_OTHER])]),
+]
+
+
+def cases_of(group):
+    return CASES + PASS_CASES if group == GROUP else CASES
+
 
 def all_cases(group):
     """All questions with one of their holders."""
-    for text, holders in CASES:
+    for text, holders in cases_of(group):
         question = ask(text, ISSUERS[group.p])
         for secret, picks in holders:
             yield question, secret, picks
@@ -354,6 +373,20 @@ class HolderTest(unittest.TestCase):
             door.challenge(challenge)
             count += door.finish(holder.reply(challenge))
         return count
+
+    def test_other_values_of_three(self):
+        for field, word in enumerate(["zone", "price", "kind"]):
+            question = ask(f"{PASS} least me {word} 0", ISSUERS[GROUP.p])
+            tape = [(5 * at + 2) % 11 for at in range(tape_count(question, [TWO_PASS]))]
+            fresh = (commit(GROUP, [2, 2, 1, 4, 2]),)
+            claim = claim_of(question, fresh, {})
+            numbers = (1, 4, 2)
+            others = numbers[:field] + numbers[field + 1:]
+            witness = ((2, 2, 1, 4, 2), ((0, ((1,), ())), (numbers[field], ((2, 2, *others), ()))))
+            holder = Holder(question, 2, [TWO_PASS], tape)
+            made = tape_of(claim, tape[1:])
+            self.assertEqual(holder.begin(), (fresh, (), first_move(GROUP, claim, witness, made)))
+            self.assertEqual(holder.reply(7), answer(GROUP, claim, witness, made, 7))
 
     def test_rows_that_do_not_open(self):
         """Nobody refuses such a holder ahead of the door, which accepts what it could have guessed."""
@@ -674,6 +707,18 @@ class RelationTest(unittest.TestCase):
                     question, [3], [TWO["old"]], 2, [3], [(0, 1, tail[2] - 1, tail)])
                 self.assertEqual(found, self.relation(group, openings[0], fresh[0], tail))
 
+    def test_places_of_fields(self):
+        """The number of the condition stands where its field is, among the others in their order."""
+        for field, word in enumerate(["zone", "price", "kind"]):
+            question = ask(f"{PASS} least me {word} 0", ISSUERS[GROUP.p])
+            for tail in [(2, 1, 4, 2), (2, 1, 3, 2), (2, 0, 4, 2), (2, 1, 4, 1), (7, 0, 1, 2)]:
+                found, openings, fresh = self.shown(
+                    question, [], [TWO_PASS], 2, [4], [(0, field, tail[1 + field], tail)])
+                if tail == (2, 1, 4, 2):
+                    self.assertEqual(found, ("openings", ((0, (1, 2, 1, 4, 2)),)))
+                else:
+                    self.assertEqual(found, self.relation(GROUP, openings[0], fresh[0], tail))
+
     def test_first_relation(self):
         for group in [SMALL, GROUP]:
             question = ask(PERSON + " least me age 2 among me town 0 2", ISSUERS[group.p])
@@ -733,15 +778,17 @@ class OtherTapeTest(unittest.TestCase):
                         self.assertIs(type(found), list)
 
     def test_tapes_of_others(self):
-        for text, holders in CASES:
-            question = ask(text, ISSUERS[SMALL.p])
-            for (secret, picks), (other_secret, other_picks) in itertools.product(holders, repeat=2):
-                for tape, challenge in itertools.product(tapes_of(question, picks), range(5)):
-                    view = view_of(question, secret, picks, tape, challenge)
-                    found = other_tape(question, view, other_secret, other_picks)
-                    self.assertEqual(len(found), tape_count(question, other_picks))
-                    self.assertTrue(all(type(number) is int and 0 <= number < 5 for number in found))
-                    self.assertEqual(view_of(question, other_secret, other_picks, found, challenge), view)
+        for group in [SMALL, GROUP]:
+            for text, holders in cases_of(group):
+                question = ask(text, ISSUERS[group.p])
+                for (secret, picks), (other_secret, other_picks) in itertools.product(holders, repeat=2):
+                    tape = tapes_of(question, picks)[1]
+                    for challenge in range(group.q):
+                        view = view_of(question, secret, picks, tape, challenge)
+                        found = other_tape(question, view, other_secret, other_picks)
+                        self.assertEqual(len(found), tape_count(question, other_picks))
+                        self.assertTrue(all(type(number) is int and 0 <= number < group.q for number in found))
+                        self.assertEqual(view_of(question, other_secret, other_picks, found, challenge), view)
 
     def test_no_other_tape(self):
         for text, holders in CASES:

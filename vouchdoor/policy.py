@@ -33,8 +33,8 @@ class Reader:
     """The words of a text, of which the first ones are read."""
 
     def __init__(self, text):
-        # The empty text has no words, but splitting it would give one.
-        self.words = text.split(" ") if text != "" else []
+        # The empty text has no words; the empty word that it gets here fits nowhere either.
+        self.words = text.split(" ")
         self.at = 0
 
     def ahead(self):
@@ -67,7 +67,8 @@ def read_policy(text, kinds):
     reader = Reader(text)
     cards = [_read_card(reader, kinds, [])]
     while len(cards) < MOST_CARDS and reader.ahead() == "card":
-        cards.append(_read_card(reader, kinds, [name for name, _, _ in cards]))
+        taken = [name for name, _, _ in cards]
+        cards.append(_read_card(reader, kinds, taken))
     values = _values_of(cards, kinds)
     conditions = []
     while reader.ahead() is not None:
@@ -108,7 +109,7 @@ def _read_condition(reader, values):
         return word, card, field, other_card, other_field
     if word == "among":
         return word, card, field, _read_numbers(reader, many)
-    return word, card, field, _read_number(reader, 0, many)
+    return word, card, field, _read_number(reader, many)
 
 
 def _sayable(word, values):
@@ -128,16 +129,16 @@ def _read_value(reader, values):
     return [value for value in of_card if value[1] == field][0]
 
 
-def _read_number(reader, low, many):
-    """Reads a number that is not below low, of a field with so many values."""
-    return int(reader.take(_written(low, many)))
+def _read_number(reader, many):
+    """Reads a number of a field with so many values."""
+    return int(reader.take(_written(0, many)))
 
 
 def _read_numbers(reader, many):
     """Reads one number or several in ascending order, of a field with so many values."""
-    numbers = [_read_number(reader, 0, many)]
+    numbers = [_read_number(reader, many)]
     while reader.ahead() in _written(numbers[-1] + 1, many):
-        numbers.append(_read_number(reader, numbers[-1] + 1, many))
+        numbers.append(_read_number(reader, many))
     return tuple(numbers)
 
 

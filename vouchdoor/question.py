@@ -138,17 +138,17 @@ def publics(question, told):
 def meet_conditions(question, numbers):
     """Whether numbers, a dict by places, contradict no condition on these places."""
     for word, place, rest in conditions_of(question):
-        if word == "same":
-            if place in numbers and rest in numbers and numbers[place] != numbers[rest]:
+        if place in numbers:
+            # Values that must be the same are known together, so the other one is there, too.
+            wanted = numbers[rest] if word == "same" else rest
+            if not _lets(word, wanted, numbers[place]):
                 return False
-        elif place in numbers and not _lets(word, rest, numbers[place]):
-            return False
     return True
 
 
 def _lets(word, rest, number):
-    """Whether a condition on one value lets a number."""
-    if word == "equal":
+    """Whether a condition lets a number; for same the rest is the other number."""
+    if word in ("equal", "same"):
         return number == rest
     if word == "least":
         return number >= rest
